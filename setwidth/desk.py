@@ -23,6 +23,16 @@ def se_read(t):
     return [0, read_answer(t)]
 
 
+def se_same(t, u):
+    """1 if the texts t and u have the same value, 0 if not, or why one of them is refused."""
+    for text in (t, u):
+        answer = read_answer(text)
+        if answer < 0:
+            return [0, answer]
+    # Gaps are no parts, and strings keep their quotes: equal parts are equal values, and no others are.
+    return [0, 1 if parts_of(t) == parts_of(u) else 0]
+
+
 def read_answer(t):
     """The number that se_read answers."""
     if len(t) > MOST_BYTES:
