@@ -1,5 +1,6 @@
 """The calls of setwidth: texts are lists of bytes, answers are lists of whole numbers."""
 
+BAD_WIDTH = -22
 TOO_MUCH = -28
 NO_VALUE = -71
 
@@ -8,6 +9,7 @@ MOST_VALUES = 512
 MOST_DEEP = 8
 MOST_IN_WORD = 64
 MOST_IN_STRING = 64
+MOST_WIDE = 200
 
 NEWLINE = 10
 SPACE = 32
@@ -16,6 +18,22 @@ OPENING = 40
 CLOSING = 41
 BACKSLASH = 92
 LAST_PRINTED = 126
+
+# The ways to set out a list: of those that cost the same the least number is taken.
+FLAT = 0
+BESIDE = 1
+BELOW = 2
+
+
+class Value:
+    """A word, a string or a list."""
+
+    def __init__(self, flat, inner):
+        # All its bytes on one line; the values in it, None for a word or a string.
+        self.flat = flat
+        self.inner = inner
+        # The way taken by column: else a deep list would be gone through anew for each way of each list round it.
+        self.known = {}
 
 
 def se_read(t):
@@ -31,6 +49,25 @@ def se_same(t, u):
             return [0, answer]
     # Gaps are no parts, and strings keep their quotes: equal parts are equal values, and no others are.
     return [0, 1 if parts_of(t) == parts_of(u) else 0]
+
+
+def se_cost(width, t):
+    """What the way that is taken for the text t costs in that width, or why it is refused."""
+    refusal = refusal_of(width, t)
+    if refusal < 0:
+        return [0, refusal]
+    taken = way_taken(value_of(parts_of(t)), 0, 0, width)
+    return [1, taken[0], taken[1]]
+
+
+def refusal_of(width, t):
+    """Why t can't be set out in that width; 0 if it can."""
+    answer = read_answer(t)
+    if answer < 0:
+        return answer
+    if width < 1 or width > MOST_WIDE:
+        return BAD_WIDTH
+    return 0
 
 
 def read_answer(t):
@@ -147,3 +184,76 @@ def is_one_value(parts):
 def count_values(parts):
     """How many values parts have: each part but a closing bracket begins one."""
     return len([part for part in parts if part[0] != CLOSING])
+
+
+def value_of(parts):
+    """The one value that parts are."""
+    # The values so far of each list that isn't closed yet; the first of these is round the whole.
+    lists = [[]]
+    for part in parts:
+        if part[0] == OPENING:
+            lists.append([])
+        elif part[0] == CLOSING:
+            inner = lists.pop()
+            lists[-1].append(Value(flat_list(inner), inner))
+        else:
+            lists[-1].append(Value(part, None))
+    return lists[0][0]
+
+
+def flat_list(inner):
+    """The bytes of a list of these values, flat."""
+    flat = [OPENING]
+    for value in inner:
+        if len(flat) > 1:
+            flat.append(SPACE)
+        flat.extend(value.flat)
+    flat.append(CLOSING)
+    return flat
+
+
+def way_taken(value, column, behind, width):
+    """What the way that is taken for value at column costs, and which it is: (beyond, lines, way).
+
+    Told are the lines that end in it or with it, each in its whole length from column 0 on; behind is how many
+    closing brackets follow on its last line.
+    """
+    flat = (max(0, column + len(value.flat) + behind - width), 1, FLAT)
+    # Nothing is cheaper than one line within the width; without values in it there is no other way.
+    if flat[0] == 0 or not value.inner:
+        return flat
+    # By column alone: behind and width are the same each time value is asked for.
+    if column not in value.known:
+        spread = [spread_cost(value, column, behind, width, way) for way in ways_over_lines(value)]
+        value.known[column] = min([flat] + spread)
+    return value.known[column]
+
+
+def ways_over_lines(value):
+    """The ways but flat that are open to a list that isn't empty."""
+    if len(value.inner) > 1 and value.inner[0].inner is None:
+        return (BESIDE, BELOW)
+    return (BELOW,)
+
+
+def spread_cost(value, column, behind, width, way):
+    """What a list costs beside or below, its values each in the way that is taken for it."""
+    beyond = 0
+    lines = 0
+    for inner, inner_column, inner_behind in places_in(value, column, behind, way):
+        taken = way_taken(inner, inner_column, inner_behind, width)
+        beyond += taken[0]
+        lines += taken[1]
+    return (beyond, lines, way)
+
+
+def places_in(value, column, behind, way):
+    """The values that end a line in a list beside or below: (value, its column, closing brackets behind it)."""
+    ending = value.inner
+    columns = [column + 1] + [column + 2] * (len(ending) - 1)
+    if way == BESIDE:
+        # The first stands on the second one's line, which counts it by its column.
+        ending = value.inner[1:]
+        columns = [column + 1 + len(value.inner[0].flat) + 1] * len(ending)
+    behinds = [0] * (len(ending) - 1) + [behind + 1]
+    return list(zip(ending, columns, behinds))

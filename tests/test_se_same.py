@@ -1,10 +1,9 @@
 """Promise 2: se_same."""
 
 import itertools
-import re
 import unittest
 
-from helpers import NO_VALUE, TOO_MUCH, Unseen, Watched, nested, row, words
+from helpers import NO_VALUE, TOO_MUCH, Unseen, Watched, nested, parsed, row, words
 from setwidth.desk import se_read, se_same
 
 SAME = [0, 1]
@@ -234,19 +233,13 @@ class HowItIsCalled(unittest.TestCase):
         self.assertEqual(se_same(row("(a)"), row("(a)")), SAME)
 
 
-def plain(text):
-    """A short good text without a gap that could be left out: one text for one value."""
-    parts = re.findall(r'[()]|"(?:[^"\\]|\\.)*"|[^()" \n]+', text)
-    return " ".join(parts)
-
-
 class AllShortTexts(unittest.TestCase):
     def compare(self, letters, longest):
         all_signs = [signs for length in range(longest + 1) for signs in itertools.product(letters, repeat=length)]
         good = [text for text in map("".join, all_signs) if se_read(row(text))[1] > 0]
         self.assertGreater(len(good), 20)
         for t, u in itertools.product(good, repeat=2):
-            self.assertEqual(se_same(row(t), row(u)), SAME if plain(t) == plain(u) else OTHER, (t, u))
+            self.assertEqual(se_same(row(t), row(u)), SAME if parsed(t) == parsed(u) else OTHER, (t, u))
 
     def test_lists(self):
         self.compare("()a ", 5)
