@@ -10,6 +10,7 @@ MOST_DEEP = 8
 MOST_IN_WORD = 64
 MOST_IN_STRING = 64
 MOST_WIDE = 200
+MOST_SET = 65536
 
 NEWLINE = 10
 SPACE = 32
@@ -58,6 +59,17 @@ def se_cost(width, t):
         return [0, refusal]
     taken = way_taken(value_of(parts_of(t)), 0, 0, width)
     return [1, taken[0], taken[1]]
+
+
+def se_set(width, t):
+    """The text t, set out in the way that is taken in that width, or why it is refused."""
+    refusal = refusal_of(width, t)
+    if refusal < 0:
+        return [0, refusal]
+    text = set_out(value_of(parts_of(t)), 0, 0, width)
+    if len(text) > MOST_SET:
+        return [0, TOO_MUCH]
+    return [2, len(text)] + text
 
 
 def refusal_of(width, t):
@@ -230,7 +242,7 @@ def way_taken(value, column, behind, width):
 
 
 def ways_over_lines(value):
-    """The ways but flat that are open to a list that isn't empty."""
+    """The ways but flat that a list with values in it may be set out in."""
     if len(value.inner) > 1 and value.inner[0].inner is None:
         return (BESIDE, BELOW)
     return (BELOW,)
@@ -257,3 +269,22 @@ def places_in(value, column, behind, way):
         columns = [column + 1 + len(value.inner[0].flat) + 1] * len(ending)
     behinds = [0] * (len(ending) - 1) + [behind + 1]
     return list(zip(ending, columns, behinds))
+
+
+def set_out(value, column, behind, width):
+    """The bytes of value at column in the way that is taken, without those behind it."""
+    way = way_taken(value, column, behind, width)[2]
+    if way == FLAT:
+        return value.flat
+    text = [OPENING]
+    if way == BESIDE:
+        text.extend(value.inner[0].flat)
+        text.append(SPACE)
+    start = len(text)
+    for inner, inner_column, inner_behind in places_in(value, column, behind, way):
+        if len(text) > start:
+            text.append(NEWLINE)
+            text.extend([SPACE] * inner_column)
+        text.extend(set_out(inner, inner_column, inner_behind, width))
+    text.append(CLOSING)
+    return text

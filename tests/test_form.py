@@ -2,10 +2,12 @@
 
 import ast
 import builtins
+import inspect
 import pathlib
+import re
 import unittest
 
-import setwidth
+import setwidth.desk
 
 FOLDER = pathlib.Path(setwidth.__file__).parent
 FILES = sorted(FOLDER.rglob("*.py"))
@@ -14,6 +16,13 @@ OWN_NAMES = """len range enumerate zip min max sum abs sorted reversed int str b
 LEFT_OUT = (ast.Import, ast.ImportFrom, ast.With, ast.Match, ast.Delete, ast.Global, ast.Nonlocal, ast.Assert,
             ast.Yield, ast.YieldFrom, ast.AsyncFunctionDef, ast.Await, ast.SetComp, ast.DictComp, ast.GeneratorExp,
             ast.NamedExpr, ast.Starred, ast.Div)
+
+METHODS = """append clear copy count endswith extend find get index insert isalnum isalpha isdigit islower isspace
+    isupper items join keys ljust lower lstrip partition pop remove replace reverse rfind rjust rpartition rsplit rstrip
+    setdefault split splitlines startswith strip update upper values zfill bit_length""".split()
+NOWHERE = re.compile(r"""\b(type|typing|typing_extensions|enum|Enum|IntEnum|StrEnum|Flag|IntFlag|Generic|Protocol|ABC
+    |ABCMeta|namedtuple|NamedTuple|TypedDict|TYPE_CHECKING|abstractmethod|register|mro|elements|open|input)\b
+    |dataclass|overload|contextmanager""", re.VERBOSE)
 
 
 class Form(unittest.TestCase):
@@ -56,6 +65,26 @@ class Form(unittest.TestCase):
                 if hasattr(builtins, node.id):
                     self.assertIn(node.id, OWN_NAMES, where)
                     self.assertIsInstance(node.ctx, ast.Load, where)
+
+    def test_words_that_stand_nowhere(self):
+        for path in FILES:
+            self.assertIsNone(NOWHERE.search(path.read_text("ascii")), path.name)
+
+    def test_methods(self):
+        for node, where in self.each_node():
+            if isinstance(node, ast.Call) and isinstance(node.func, ast.Attribute):
+                self.assertIn(node.func.attr, METHODS, where)
+
+    def test_is_stands_beside_none_true_and_false_alone(self):
+        for node, where in self.each_node():
+            if isinstance(node, ast.Compare) and any(isinstance(sign, (ast.Is, ast.IsNot)) for sign in node.ops):
+                self.assertIn(ast.unparse(node.comparators[-1]), ("None", "True", "False"), where)
+
+    def test_what_the_document_names_is_there(self):
+        for name, arguments in (("se_read", ["t"]), ("se_same", ["t", "u"]), ("se_cost", ["width", "t"]),
+                                ("se_set", ["width", "t"])):
+            found = getattr(setwidth.desk, name)
+            self.assertEqual(list(inspect.signature(found).parameters), arguments)
 
 
 if __name__ == "__main__":
